@@ -1,0 +1,1 @@
+"""Rods that move one another with slack."""

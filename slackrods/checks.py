@@ -1,0 +1,32 @@
+"""Checks of arguments that several files need."""
+
+from slackrods.errors import InvalidPlace, InvalidRow
+
+FARTHEST = 1000000
+LONGEST_ROW = 1000
+
+
+def is_number(value, low, high):
+    """Tell whether a value is an integer from low to high."""
+    # True and False are integers to Python, but no numbers here.
+    return isinstance(value, int) and not isinstance(value, bool) and low <= value <= high
+
+
+def is_place(value):
+    """Tell whether a value is a place where the handle can be."""
+    return is_number(value, -FARTHEST, FARTHEST)
+
+
+def check_place(place):
+    """Raise InvalidPlace for what is no place."""
+    if not is_place(place):
+        raise InvalidPlace("a place is from -1000000 to 1000000")
+
+
+def check_row(row):
+    """Raise InvalidRow for what is no list of at most 1000 places."""
+    if not isinstance(row, list):
+        raise InvalidRow(0)
+    for index, place in enumerate(row):
+        if index >= LONGEST_ROW or not is_place(place):
+            raise InvalidRow(index)
