@@ -1,6 +1,6 @@
 """Checks of arguments that several files need."""
 
-from slackrods.errors import InvalidPlace, InvalidRow
+from slackrods.errors import InvalidCount, InvalidPlace, InvalidRow
 
 FARTHEST = 1000000
 LONGEST_ROW = 1000
@@ -30,3 +30,9 @@ def check_row(row):
     for index, place in enumerate(row):
         if index >= LONGEST_ROW or not is_place(place):
             raise InvalidRow(index)
+
+
+def check_count(count, low, high):
+    """Raise InvalidCount for what is no number from low to high."""
+    if not is_number(count, low, high):
+        raise InvalidCount(f"a number from {low} to {high} is needed")

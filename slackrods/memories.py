@@ -30,16 +30,21 @@ def _check_places(places):
             raise InvalidMemory(index)
 
 
-def _after_move(places, place):
-    """Return the places of a memory after a move of the handle."""
+def count_kept(places, place):
+    """Return how many places of a memory still stand ahead of the handle's after a move."""
     if place <= places[0]:
-        return (place,)
+        return 0
     # Each swing lies within the one before it, so the first swing that
     # the move reaches or passes ends all the later ones, too.
     kept = 1
     while kept < len(places) and _is_between(place, places[kept - 1], places[kept]):
         kept += 1
-    return places[:kept] + (place,)
+    return kept
+
+
+def after_move(places, place):
+    """Return the places of a memory after a move of the handle."""
+    return places[:count_kept(places, place)] + (place,)
 
 
 class Memory:
@@ -69,7 +74,7 @@ class Memory:
     def __call__(self, place):
         """Return the memory after one more move of the handle."""
         check_place(place)
-        return Memory(_after_move(self._places, place))
+        return Memory(after_move(self._places, place))
 
     def __len__(self):
         return len(self._places)
@@ -83,5 +88,5 @@ def memory_of(row):
     check_row(row)
     places = (0,)
     for place in row:
-        places = _after_move(places, place)
+        places = after_move(places, place)
     return Memory(places)

@@ -5,6 +5,7 @@ Each rig is kept as its arms, the one plain sum of rods that does the same.
 
 from slackrods.checks import FARTHEST, check_row, is_number
 from slackrods.errors import InvalidEnds, InvalidPlace, InvalidSlack, InvalidTimes, NotForward, TooGreat
+from slackrods.following import ends_of_arms
 
 GREATEST_ROD = 99
 GREATEST_TIMES = 99
@@ -73,24 +74,6 @@ def _chain_of_arms(first, second):
     return _arms_of_curve([_height_of_end(second, end) for end in _curve_up_to(first, top)])
 
 
-def _ends_of_rod(slack, places):
-    """Return the places of the end of a rod after each of the handle's places."""
-    ends = []
-    end = 0
-    for place in places:
-        end = min(max(end, place - slack), place)
-        ends.append(end)
-    return ends
-
-
-def _ends_of_arms(arms, places):
-    """Return the places of the end of a rig after each of the handle's places."""
-    ends = [0 for _ in places]
-    for slack, arm in arms:
-        ends = [end + arm * far for end, far in zip(ends, _ends_of_rod(slack, places))]
-    return ends
-
-
 class Rig:
     """Rods put together; only the functions and operators of the package make it."""
 
@@ -132,12 +115,12 @@ class Rig:
     def at(self, memory):
         """Return the place of the end after a memory."""
         # The places of a memory are also moves that lead to it.
-        return _ends_of_arms(self._arms, memory.places)[-1]
+        return ends_of_arms(self._arms, memory.places)[-1]
 
     def __call__(self, row):
         """Return the list of the places of the end after each move of a row from rest."""
         check_row(row)
-        return _ends_of_arms(self._arms, row)
+        return ends_of_arms(self._arms, row)
 
     def __len__(self):
         return len(self._arms)

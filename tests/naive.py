@@ -90,3 +90,27 @@ def memory_places(row):
         path = path[last + 1:]
         turn = max if turn is min else min
     return tuple(found)
+
+
+def closed_loops(row):
+    """The heights of the closed loops of a row in their order, as [7] tells it step by step."""
+    found = []
+    swings = []
+    was = 0
+    for place in (passed for start, goal in zip([0] + row, row) for passed in way(start, goal)):
+        up = place > was
+        if swings and (swings[-1][1] > swings[-1][0]) == up:
+            swings[-1][1] = place
+        elif swings or up:
+            swings.append([was, place])
+        if len(swings) > 1 and place == swings[-2][0]:
+            found.append(abs(swings[-2][1] - place))
+            del swings[-2:]
+        was = place
+    return found
+
+
+def travel(part, row):
+    """How far the end of a fresh part goes in all single steps of a row."""
+    found = [0] + all_ends(part, row)
+    return sum(abs(after - before) for before, after in zip(found, found[1:]))

@@ -7,6 +7,13 @@ from tests import naive
 
 WRONG_KINDS = (None, True, False, "1", "", (1,), (), [1], [], 1.0)
 
+# Rows that are refused, each with the index that the error has.
+WRONG_ROWS = tuple(
+    [([1] * 1001, 1000), ([1] * 1000 + [None], 1000), ([2, 3, 1000001, None], 2), ([-1000001], 0)]
+    + [([3, wrong, None], 1) for wrong in WRONG_KINDS]
+    + [(wrong, 0) for wrong in (None, (1, 2), (), "12", "", 5, 0, True, False)]
+)
+
 
 def generator(seed):
     return random.Random(seed)

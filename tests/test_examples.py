@@ -2,8 +2,12 @@
 
 import unittest
 
+from slackrods.comparison import chain_for, first_unlike, sum_for
 from slackrods.errors import InvalidMemory, NotForward
+from slackrods.loops import area, loops, open_swings, travel
 from slackrods.memories import Memory, memory_of
+from slackrods.plans import fewest_moves, moves_to
+from slackrods.repeated import Repeated
 from slackrods.rigs import rig_of, rod
 
 
@@ -30,6 +34,27 @@ class ExampleTest(unittest.TestCase):
         with self.assertRaises(InvalidMemory) as caught:
             Memory((0, 9, 9))
         self.assertEqual(caught.exception.index, 2)
+
+    def test_loops(self):
+        found = [loops([9, 4, 6, 4, 0]), open_swings(memory_of([9, 4, 6])), travel(rod(3), [9, 4, 6]), area(rod(2), 5)]
+        self.assertEqual(found, [{2: 1, 9: 1}, [9, 5, 2], 8, 6])
+
+    def test_repeated(self):
+        repeated = Repeated(rod(1), [4, 1])
+        found = [repeated(1), repeated.ends, repeated.loops_after(3), repeated.travel_after(10 ** 18)]
+        self.assertEqual(found, [1, [3, 1], {3: 2}, 4000000000000000001])
+
+    def test_comparison(self):
+        parts = [rod(2), rod(3), rod(5)]
+        found = [first_unlike(rod(2), rod(5)), chain_for(rod(7), parts, 2), sum_for(rod(2) * 2 + rod(5), parts, 3)]
+        self.assertEqual(found, [3, [0, 2], [0, 0, 2]])
+
+    def test_plans(self):
+        found = [
+            fewest_moves(memory_of([9, 4, 7]), memory_of([9, 5])),
+            moves_to(rod(3), Memory((0,)), 2, 2, (0, 6)),
+        ]
+        self.assertEqual(found, [[9, 5], [5, 2]])
 
 
 if __name__ == "__main__":

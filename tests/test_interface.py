@@ -1,0 +1,41 @@
+"""The names of the interface stand in the files under which it lists them."""
+
+import importlib
+import inspect
+import unittest
+
+FUNCTIONS = {
+    "rigs": {"rod": 1, "rig_of": 1},
+    "memories": {"memory_of": 1},
+    "loops": {"loops": 1, "open_swings": 1, "travel": 2, "area": 2},
+    "comparison": {"first_unlike": 2, "chain_for": 3, "sum_for": 3},
+    "plans": {"fewest_moves": 2, "moves_to": 5},
+}
+METHODS = {
+    ("rigs", "Rig"): ("arms", "pull", "is_forward", "still", "curve", "at", "__call__", "__len__", "__getitem__",
+                      "__add__", "__sub__", "__mul__", "__rshift__", "__neg__", "__eq__"),
+    ("memories", "Memory"): ("places", "place", "row", "__init__", "__call__", "__len__", "__eq__"),
+    ("repeated", "Repeated"): ("ends", "__init__", "__call__", "loops_after", "travel_after", "worn_after"),
+}
+
+
+class InterfaceTest(unittest.TestCase):
+    def test_functions(self):
+        for file, functions in FUNCTIONS.items():
+            module = importlib.import_module("slackrods." + file)
+            for name, many in functions.items():
+                with self.subTest(file=file, name=name):
+                    function = getattr(module, name)
+                    self.assertEqual(function.__module__, module.__name__)
+                    self.assertEqual(len(inspect.signature(function).parameters), many)
+
+    def test_methods_stand_in_the_classes_themselves(self):
+        for (file, name), methods in METHODS.items():
+            module = importlib.import_module("slackrods." + file)
+            with self.subTest(file=file, name=name):
+                self.assertEqual(getattr(module, name).__module__, module.__name__)
+                self.assertEqual([method for method in methods if method not in vars(getattr(module, name))], [])
+
+
+if __name__ == "__main__":
+    unittest.main()
