@@ -6,10 +6,15 @@ FARTHEST = 1000000
 LONGEST_ROW = 1000
 
 
+def is_whole_number(value):
+    """Tell whether a value is an integer of any size."""
+    # True and False are integers to Python, but no numbers here.
+    return isinstance(value, int) and not isinstance(value, bool)
+
+
 def is_number(value, low, high):
     """Tell whether a value is an integer from low to high."""
-    # True and False are integers to Python, but no numbers here.
-    return isinstance(value, int) and not isinstance(value, bool) and low <= value <= high
+    return is_whole_number(value) and low <= value <= high
 
 
 def is_place(value):

@@ -92,6 +92,23 @@ def memory_places(row):
     return tuple(found)
 
 
+def all_memories(low, high):
+    """The places of all memories from low to high, as [6] tells them."""
+    found = []
+    new = [(lowest,) for lowest in range(low, 1)]
+    while new:
+        found.extend(new)
+        new = [places + (place,) for places in new for place in range(low, high + 1) if goes_on(places, place)]
+    return sorted(found)
+
+
+def goes_on(places, place):
+    """Whether a place can stand behind the others in a memory."""
+    if len(places) == 1:
+        return place > places[0]
+    return min(places[-2:]) < place < max(places[-2:])
+
+
 def closed_loops(row):
     """The heights of the closed loops of a row in their order, as [7] tells it step by step."""
     found = []

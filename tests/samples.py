@@ -41,7 +41,12 @@ def random_sum(chance, forward):
     rig = rod(0) * 0
     for slack, times in parts:
         rig = rig + rod(slack) * times
-    return rig, lambda: naive.Sum(*[(naive.Rod(slack), times) for slack, times in parts])
+    return rig, model_of_arms(parts)
+
+
+def model_of_arms(arms):
+    """A function that makes the fresh model of a sum of rods."""
+    return lambda: naive.Sum(*[(naive.Rod(slack), arm) for slack, arm in arms])
 
 
 def chained(first, second):

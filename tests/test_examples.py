@@ -3,12 +3,16 @@
 import unittest
 
 from slackrods.comparison import chain_for, first_unlike, sum_for
-from slackrods.errors import InvalidMemory, NotForward
+from slackrods.errors import InvalidMemory, NotationError, NotForward
+from slackrods.extremes import greatest_end
 from slackrods.loops import area, loops, open_swings, travel
 from slackrods.memories import Memory, memory_of
+from slackrods.notation import parse, text_of
+from slackrods.numbering import ends_within, memory_count, memory_number, nth_memory
 from slackrods.plans import fewest_moves, moves_to
 from slackrods.repeated import Repeated
 from slackrods.rigs import rig_of, rod
+from slackrods.watchers import rod_watcher
 
 
 class ExampleTest(unittest.TestCase):
@@ -55,6 +59,30 @@ class ExampleTest(unittest.TestCase):
             moves_to(rod(3), Memory((0,)), 2, 2, (0, 6)),
         ]
         self.assertEqual(found, [[9, 5], [5, 2]])
+
+    def test_extremes(self):
+        found = [greatest_end(rod(0) - rod(2), (0, 3))[0], greatest_end(rod(1), (-4, 5))[0]]
+        self.assertEqual(found, [2, 4])
+
+    def test_numbering(self):
+        found = [
+            memory_count(3), nth_memory(3, 5).places, memory_number(Memory((0, 2, 1)), 3), ends_within(rod(1), 2),
+        ]
+        self.assertEqual(found, [8, (0, 3, 1), 3, {0: 2, 1: 2}])
+
+    def test_watchers(self):
+        watcher = rod_watcher(3, 2)
+        found = [watcher.see(3, 2), watcher.candidates, watcher.possible_ends(4), watcher.telling_move(9)]
+        self.assertEqual(found, [2, [(1, 1), (2, 2)], [3, 4], 1])
+
+    def test_notation(self):
+        found = [parse("rod(1) * 2 + rod(2) >> rod(3)").arms, text_of(rod(3) - rod(1) * 4)]
+        self.assertEqual(found, [((2, 2), (3, 1)), "-rod(1) * 4 + rod(3)"])
+
+    def test_wrong_notation(self):
+        with self.assertRaises(NotationError) as caught:
+            parse("rod(5) + ro")
+        self.assertEqual(caught.exception.index, 11)
 
 
 if __name__ == "__main__":

@@ -10,12 +10,17 @@ FUNCTIONS = {
     "loops": {"loops": 1, "open_swings": 1, "travel": 2, "area": 2},
     "comparison": {"first_unlike": 2, "chain_for": 3, "sum_for": 3},
     "plans": {"fewest_moves": 2, "moves_to": 5},
+    "extremes": {"greatest_end": 2},
+    "numbering": {"memory_count": 1, "memory_number": 2, "nth_memory": 2, "ends_within": 2},
+    "watchers": {"rod_watcher": 2, "pair_watcher": 1},
+    "notation": {"parse": 1, "text_of": 1},
 }
 METHODS = {
     ("rigs", "Rig"): ("arms", "pull", "is_forward", "still", "curve", "at", "__call__", "__len__", "__getitem__",
                       "__add__", "__sub__", "__mul__", "__rshift__", "__neg__", "__eq__"),
     ("memories", "Memory"): ("places", "place", "row", "__init__", "__call__", "__len__", "__eq__"),
     ("repeated", "Repeated"): ("ends", "__init__", "__call__", "loops_after", "travel_after", "worn_after"),
+    ("watchers", "Watcher"): ("candidates", "history", "memory", "see", "see_all", "possible_ends", "telling_move"),
 }
 
 
