@@ -1,9 +1,10 @@
 """Checks of arguments that several files need."""
 
-from slackrods.errors import InvalidCount, InvalidPlace, InvalidRow
+from slackrods.errors import InvalidCount, InvalidName, InvalidPlace, InvalidRow
 
 FARTHEST = 1000000
 LONGEST_ROW = 1000
+LONGEST_NAME = 8
 
 
 def is_whole_number(value):
@@ -41,3 +42,11 @@ def check_count(count, low, high):
     """Raise InvalidCount for what is no number from low to high."""
     if not is_number(count, low, high):
         raise InvalidCount(f"a number from {low} to {high} is needed")
+
+
+def check_name(name):
+    """Raise InvalidName for what is no name of one to eight letters a to z."""
+    if not isinstance(name, str) or not 1 <= len(name) <= LONGEST_NAME:
+        raise InvalidName("a name has one to eight letters")
+    if not all(["a" <= letter <= "z" for letter in name]):
+        raise InvalidName("a name has only letters a to z")

@@ -2,14 +2,18 @@
 
 import unittest
 
+from slackrods.codes import encode
 from slackrods.comparison import chain_for, first_unlike, sum_for
 from slackrods.errors import InvalidMemory, NotationError, NotForward
 from slackrods.extremes import greatest_end
+from slackrods.live import Live
 from slackrods.loops import area, loops, open_swings, travel
 from slackrods.memories import Memory, memory_of
 from slackrods.notation import parse, text_of
 from slackrods.numbering import ends_within, memory_count, memory_number, nth_memory
+from slackrods.panels import Panel
 from slackrods.plans import fewest_moves, moves_to
+from slackrods.recordings import recorded, shortened
 from slackrods.repeated import Repeated
 from slackrods.rigs import rig_of, rod
 from slackrods.watchers import rod_watcher
@@ -83,6 +87,24 @@ class ExampleTest(unittest.TestCase):
         with self.assertRaises(NotationError) as caught:
             parse("rod(5) + ro")
         self.assertEqual(caught.exception.index, 11)
+
+    def test_codes(self):
+        self.assertEqual(encode(rod(5)), [82, 1, 0, 5, 0, 0, 0, 1, 214])
+
+    def test_live(self):
+        live = Live(rod(2))
+        results = live.apply([("move", 5), ("move", 4), ("back",), ("undo",)])
+        found = [results, live.moves, live.change(rod(0)), live.end]
+        self.assertEqual(found, [[3, 3, 3, True], [5, 4], True, 4])
+
+    def test_recordings(self):
+        found = [recorded(rod(1), [3, 1, 2]), shortened(recorded(rod(1), [3, 1, 3, 2]))]
+        self.assertEqual(found, [[(3, 2), (1, 1), (2, 1)], [(3, 2), (2, 2)]])
+
+    def test_panels(self):
+        panel = Panel({"a": rod(1), "b": rod(0) - rod(2)})
+        found = [panel([3]), panel.ranking(memory_of([1])), panel.first_change([3, 0, 1])]
+        self.assertEqual(found, [{"a": [2], "b": [2]}, ["b", "a"], 2])
 
 
 if __name__ == "__main__":

@@ -14,6 +14,8 @@ FUNCTIONS = {
     "numbering": {"memory_count": 1, "memory_number": 2, "nth_memory": 2, "ends_within": 2},
     "watchers": {"rod_watcher": 2, "pair_watcher": 1},
     "notation": {"parse": 1, "text_of": 1},
+    "codes": {"encode": 1, "decode": 1},
+    "recordings": {"first_wrong": 2, "recorded": 2, "explained": 2, "shortened": 1},
 }
 METHODS = {
     ("rigs", "Rig"): ("arms", "pull", "is_forward", "still", "curve", "at", "__call__", "__len__", "__getitem__",
@@ -21,6 +23,10 @@ METHODS = {
     ("memories", "Memory"): ("places", "place", "row", "__init__", "__call__", "__len__", "__eq__"),
     ("repeated", "Repeated"): ("ends", "__init__", "__call__", "loops_after", "travel_after", "worn_after"),
     ("watchers", "Watcher"): ("candidates", "history", "memory", "see", "see_all", "possible_ends", "telling_move"),
+    ("live", "Live"): ("__init__", "move", "change", "back", "undo", "redo", "apply", "mark", "return_to", "replay",
+                       "rig", "memory", "place", "end", "moves", "history", "marks"),
+    ("panels", "Panel"): ("__init__", "names", "__call__", "__len__", "__contains__", "__getitem__", "__or__", "__sub__",
+                          "__rshift__", "__eq__", "ends_at", "ranking", "alike", "first_change"),
 }
 
 
